@@ -93,3 +93,17 @@ func eachOldDate(t *testing.T, f func(number int, d impl.Date)) {
 		}
 	}
 }
+
+// eachChangedText calls f for a text with one byte changed, put in or left out, and for its beginnings and ends.
+func eachChangedText(text string, f func(s string)) {
+	for at := range len(text) {
+		for b := range 256 {
+			one := string([]byte{byte(b)})
+			f(text[:at] + one + text[at+1:])
+			f(text[:at] + one + text[at:])
+		}
+		f(text[:at] + text[at+1:])
+		f(text[:at])
+		f(text[at:])
+	}
+}
